@@ -1,0 +1,1 @@
+"""Pictures without loss in WebP's form."""
