@@ -1,6 +1,14 @@
 """The refusals, one error class for each."""
 
 
+class TooLittleRoom(Exception):
+    pass
+
+
+class OutOfRange(Exception):
+    pass
+
+
 class NoSuchFile(Exception):
     pass
 

@@ -1,9 +1,10 @@
 """Files as an encoder of this kind makes them: what the tests' own writer knows may be wrong, these are not."""
 
+import hashlib
 import unittest
 
-from losslook.pictures import look
-from writer import NO_FILE
+from losslook.pictures import look, read
+from writer import GREATEST_MOST, NO_FILE
 
 FILES = (
     # Greens, then predictions; three groups.
@@ -50,11 +51,26 @@ FILES = (
     )),
 )
 
+# Of the bytes that another reader makes of each, with alphas of 255 where they don't count.
+DIGESTS = (
+    "7bf0f8f9b66ecc4c81d3c4d399b2d067926edc327ac7b3608019f205fc56b255",
+    "5af3cf46b652c3c6a8fa90ef07543c9513b34d8a07014627ab9506208dad72d4",
+    "c6ea05c317a013138fbcf0b8fc0165b1bdf97ebeedc830eb23d4c9375ffa30e6",
+    "d785c9c05230e38c0015b4389a2301ab391bb605e56d251a2ed2b5024d9e2458",
+    "0dd26159649e42b5645b5603ee21c2442975b76a160c0b75f12445b2c756f40c",
+)
+
 
 class Files(unittest.TestCase):
     def test_each(self):
         for width, height, text in FILES:
             self.assertEqual(look(0, list(bytes.fromhex(text))), [0, width, height])
+
+    def test_the_bytes_of_each(self):
+        for (width, height, text), digest in zip(FILES, DIGESTS, strict=True):
+            answer = read(GREATEST_MOST, list(bytes.fromhex(text)))
+            self.assertEqual(answer[0], 4 * width * height)
+            self.assertEqual(hashlib.sha256(bytes(answer[1:])).hexdigest(), digest)
 
     def test_each_cut_short(self):
         for width, height, text in FILES:

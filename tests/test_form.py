@@ -81,8 +81,11 @@ class Form(unittest.TestCase):
             self.assertTrue(node.module.startswith("losslook."), name)
             self.assertTrue((PACKAGE / (node.module.split(".")[1] + ".py")).exists())
             defined = ast.parse((PACKAGE / (node.module.split(".")[1] + ".py")).read_text()).body
+            bound = {each.name for each in defined if isinstance(each, (ast.ClassDef, ast.FunctionDef))}
+            bound |= {each.targets[0].id for each in defined if isinstance(each, ast.Assign)}
             for alias in node.names:
-                self.assertIn(alias.name, {getattr(each, "name", None) for each in defined})
+                self.assertIn(alias.name, bound, name)
+                self.assertIsNone(alias.asname, name)
 
     def test_names(self):
         for name, node in nodes((ast.Name, ast.arg, ast.Attribute, ast.FunctionDef, ast.ClassDef)):
@@ -114,6 +117,39 @@ class Form(unittest.TestCase):
             self.assertEqual((arguments.vararg, arguments.kwarg, arguments.kwonlyargs, arguments.posonlyargs),
                              (None, None, [], []))
             self.assertEqual([each.annotation for each in arguments.args], [None] * len(arguments.args))
+
+    def test_the_top_of_each_file(self):
+        for path in files():
+            body = ast.parse(path.read_text()).body
+            self.assertIsNotNone(ast.get_docstring(ast.parse(path.read_text())), path.name)
+            bound = []
+            for node in body[1:]:
+                self.assertIsInstance(node, (ast.ImportFrom, ast.FunctionDef, ast.ClassDef, ast.Assign), path.name)
+                if isinstance(node, ast.Assign):
+                    bound.append(node.targets[0].id)
+                    for each in ast.walk(node.value):
+                        self.assertIsInstance(each, (ast.Constant, ast.Tuple, ast.Name, ast.UnaryOp, ast.USub, ast.Load))
+                        if isinstance(each, ast.Name):
+                            self.assertIn(each.id, bound)
+                elif isinstance(node, ast.ImportFrom):
+                    bound.extend(alias.name for alias in node.names)
+                else:
+                    bound.append(node.name)
+            self.assertEqual(len(bound), len(set(bound)), path.name)
+
+    def test_no_two_files_draw_from_one_another(self):
+        drawn = {path.stem: {node.module.split(".")[1] for node in ast.walk(ast.parse(path.read_text()))
+                             if isinstance(node, ast.ImportFrom)} for path in files()}
+        while drawn:
+            free = [name for name in drawn if not drawn[name] & set(drawn)]
+            self.assertNotEqual(free, [], drawn)
+            for name in free:
+                drawn.pop(name)
+
+    def test_texts(self):
+        for name, node in nodes(ast.Constant):
+            if isinstance(node.value, str):
+                self.assertNotIn("%", node.value, name)
 
     def test_is(self):
         for name, node in nodes(ast.Compare):

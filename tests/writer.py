@@ -1,10 +1,13 @@
 """A small writer of files, for the tests alone: it says what is told, right or wrong."""
 
-from losslook.pictures import look
+from losslook.pictures import look, read
 
 LENGTH_ORDER = (17, 18, 0, 1, 2, 3, 4, 5, 16, 6, 7, 8, 9, 10, 11, 12, 13, 14, 15)
 NO_FILE = [-3]
 TOO_LARGE = [-4]
+OUT_OF_RANGE = [-2]
+TOO_LITTLE_ROOM = [-1]
+GREATEST_MOST = 4194304
 PREDICTIONS, COLOURS, GREENS, TABLE = 0, 1, 2, 3
 FIRST, RED, BLUE, ALPHA, FAR = 0, 1, 2, 3, 4
 
@@ -135,6 +138,21 @@ class Writer:
             self.literal(group, green)
         return self
 
+    def colours(self, colours, own=True):
+        """A coded picture of these colours (red, green, blue, alpha), each told by itself, in one group."""
+        parts = [sorted({colour[part] for colour in colours}) for part in (1, 0, 2, 3)]
+        group = self.own(*parts) if own else self.plain(*parts)
+        for red, green, blue, alpha in colours:
+            self.literal(group, green, red, blue, alpha)
+        return self
+
+    def squares(self, kind, exponent, colours):
+        """A transform over squares of these colours."""
+        return self.transform(kind).put(exponent, 3).colours(colours, own=False)
+
+    def table(self, differences):
+        return self.transform(TABLE).put(len(differences) - 1, 8).colours(differences, own=False)
+
     def cached(self, group, slot):
         return self.word(group[FIRST], 280 + slot)
 
@@ -171,6 +189,18 @@ def looks(writer):
     answer = look(0, writer.file(0))
     other = look(0, writer.file(1))
     return answer if answer == other else [answer, other]
+
+
+def reads(writer, most=GREATEST_MOST):
+    """What read answers, where the bits that fill the last byte make no difference."""
+    answer = read(most, writer.file(0))
+    other = read(most, writer.file(1))
+    return answer if answer == other else [answer, other]
+
+
+def told(colours):
+    """The answer that tells these colours."""
+    return [4 * len(colours)] + [part for colour in colours for part in colour]
 
 
 def uniform(width, height):
